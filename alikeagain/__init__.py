@@ -1,0 +1,1 @@
+"""Copies of a store kept alike by rounds through a net of switches."""
