@@ -250,7 +250,5 @@ def heard_words(text, size, times):
     """The ascending tuple of all WORDS that are heard of the TEXT."""
     if heard_count(text, size, times) > MOST_WORDS:
         raise TooGreat(MOST_WORDS)
-    if len(text) < size:
-        return (lead_of(text, size),)
     rows = extras_up_to(extras_of(text, size), times)
     return tuple(sorted([with_extras(text, size, row) for row in rows]))

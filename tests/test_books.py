@@ -125,12 +125,22 @@ class TestBooks(Refusals, unittest.TestCase):
                       ("mixed", 0, 1, (0, 0, 0), (0, 0, 0, 0)), ("mixed", 0, 1, (0, 0), (0, 0, 0))):
             self.refused(check_book, (book, 2, 2, paper), BadPaper, word="mixed")
         self.refused(check_book, (book, 2, 1, ("mixed", 1, 2, (0, 0), ())), BadPaper, word="mixed")
+        # Places and numbers that are none, but would lead to the same string where Python takes them.
+        for paper in (("mixed", 0, 1, (), (0, 4)), ("mixed", 0, 1, (), (0, 3)), ("mixed", 0, 1, (), (0, -1)),
+                      ("mixed", -1, 1, (), (0, 0)), ("mixed", 0, 1, (-1,), (0,)), ("mixed", -2, 0, (0,), ())):
+            self.refused(check_book, (book, 2, 2, paper), BadPaper, word="mixed")
         # The rows are right, but the book is not clear by so many TIMES.
         rows = (("ab", (1,)), ("ab", (0,)), ("ab", (2,)))
         self.assertEqual(check_book(book, 2, 0, ("clear", rows)), "clear")
         self.refused(check_book, (book, 2, 1, ("clear", rows)), BadPaper, word="clear")
         self.refused(check_book, (book, 2, 0, ("clear", (("ab", (True,)), *rows[1:]))), BadPaper, word="clear")
         self.assertEqual(check_book(("abab", "c"), 2, 4, CLEAR), "clear")
+        for value in NO_TUPLES:
+            for rows in ((value, ("c", ())), ((value, (1,)), ("c", ())), (("ab", value), ("c", ())),
+                         (("ab", (value,)), ("c", ()))):
+                told = slow.paper_on_book(("abab", "c"), 2, 4, ("clear", rows))
+                if told != "clear":
+                    self.refused(check_book, (("abab", "c"), 2, 4, ("clear", rows)), BadPaper, word="clear")
 
 
 class TestSafeBooks(Refusals, unittest.TestCase):
