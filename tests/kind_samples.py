@@ -4,6 +4,7 @@ from random import Random
 
 from alikeagain.errors import BadKind, BadNumber, BadStand, BadState
 
+from tests import slow
 from tests.refusals import NO_NUMBERS, NO_TUPLES, at_place, each
 
 
@@ -83,6 +84,11 @@ def some_kinds(seed, many):
     return found
 
 
+def joining_kinds(seed, many):
+    """Those of some kinds that join."""
+    return [kind for kind in some_kinds(seed, many) if not slow.broken(kind, slow.close(kind))]
+
+
 def wrong_kinds():
     start, updates, merge, readings = KIND
     row = updates[0]
@@ -114,6 +120,8 @@ NOT_JOINING = [(kind, BadKind, {"place": rule}) for rule, kind in BREAKING.items
 WRONG_STATES = NO_NUMBERS + (-1, 3, 4, 8, 10 ** 999)
 STAND = (0, 1, 2, 2, 1)
 WRONG_STANDS = NO_TUPLES + ((), STAND * 3, (0,) * 13, list(STAND)) + tuple((0, value, 1) for value in WRONG_STATES)
+WRONG_LOTS = NO_TUPLES + ([0, 2], (2, 0), (0, 0), (0, 5), (-1, 0), (0, 1, 2, 3, 4, 5), (0, 10 ** 999), ((0,),)) \
+    + tuple((0, value) for value in NO_NUMBERS) + tuple((value,) for value in NO_NUMBERS)
 
 PARAMS = {
     "kind": (KIND, WRONG_KINDS),
@@ -122,6 +130,8 @@ PARAMS = {
     "other": (2, each(WRONG_STATES, BadState, "value")),
     "update": (1, each(NO_NUMBERS + (-1, 2, 4, 10 ** 999), BadNumber, "value")),
     "stand": (STAND, each(WRONG_STANDS, BadStand, "value")),
+    "lot": ((0, 2, 4), each(WRONG_LOTS, BadStand, "value")),
+    "many": (3, each(NO_NUMBERS + (-1, 0, 1001, 10 ** 999), BadNumber, "value")),
     "states": ((2, 0, 2), each(
         NO_TUPLES + ([2], (0,) * 61, (3,), (0, 1, 2, 3)) + tuple((0, value) for value in WRONG_STATES),
         BadState, "value")),

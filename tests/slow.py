@@ -424,3 +424,54 @@ def breadth(kind):
             if all(joined(kind, part) != joined(kind, lot) for part in fewer):
                 best = many
     return best
+
+
+# Telling, showing, adding.
+
+def lots(many):
+    """All lots of numbers below many."""
+    return [lot for less in range(many + 1) for lot in combinations(range(many), less)]
+
+
+def tells(kind, stand, lot):
+    return joined(kind, [stand[station] for station in lot]) == joined(kind, stand)
+
+
+def heard_alike(kind, one, other):
+    """Whether two states are read alike whatever is heard."""
+    behind = [(one, other)] + [(kind[2][one][third], kind[2][other][third]) for third in close(kind)]
+    return all(kind[3][first] == kind[3][second] for first, second in behind)
+
+
+def come_alike(kind, one, other):
+    """Whether two states are read alike whatever comes, by all pairs to which both can come."""
+    seen = {(one, other)}
+    waiting = [(one, other)]
+    while waiting:
+        first, second = waiting.pop()
+        if kind[3][first] != kind[3][second]:
+            return False
+        pairs = [(row[first], row[second]) for row in kind[1]]
+        pairs += [(kind[2][first][third], kind[2][second][third]) for third in close(kind)]
+        waiting += [pair for pair in pairs if pair not in seen]
+        seen |= set(pairs)
+    return True
+
+
+def paper_on_adding(kind, paper):
+    """The word of a paper on whether all updates add that holds, or what it is refused with, in a list."""
+    if is_tuple_of(paper, 2) and type(paper[0]) is str and paper[0] == "adds":
+        if not is_tuple_of(paper[1], len(kind[1])) or not all(type(state) is int for state in paper[1]):
+            return ["adds"]
+        for row, wanted in zip(kind[1], paper[1]):
+            if wanted not in close(kind) or any(row[state] != kind[2][state][wanted] for state in close(kind)):
+                return ["adds"]
+        return "adds"
+    if not is_tuple_of(paper, 3) or type(paper[0]) is not str or paper[0] != "asks":
+        return ["form"]
+    states = run_making(kind, paper[1])
+    if states is None or not is_int(paper[2], 0, len(kind[1]) - 1):
+        return ["asks"]
+    last = states[len(paper[1]) - 1]
+    row = kind[1][paper[2]]
+    return "asks" if row[last] != kind[2][last][row[kind[0]]] else ["asks"]

@@ -36,6 +36,27 @@ INTERFACE = {
     "hearing": "does_only_that_matter(kind) hearing_paper(kind) check_hearing(kind,paper) heard(kind,stand,steps)",
     "order": "below(kind) joined(kind,states) top(kind) bricks(kind) height(kind) breadth(kind) longest_chain(kind) "
              "bricks_of(kind,state)",
+    "telling": "stand_join(kind,stand) does_tell(kind,stand,lot) least_lots(kind,stand) fewest_lot(kind,stand) "
+               "needed(kind,stand) stand_count(kind,many,state)",
+    "showing": "showing(kind) heard_alike(kind) come_alike(kind) least_kind(kind) enough_lots(kind,stand)",
+    "adding": "rises(kind,update) added(kind,update) add_paper(kind) check_add(kind,paper)",
+    "plans": "need_plan(net,plan) next_moment(net,plan,moment) hears_at(net,plan,faults,moment) "
+             "turned_ring(net,plan,many)",
+    "news": "news(net,plan,faults,moment,many) first_news(net,plan,faults,moment) "
+            "way_of(net,plan,faults,moment,one,other) is_way(net,plan,faults,moment,way)",
+    "delays": "delay(net,plan,faults) moment_delay(net,plan,faults,moment) delay_paper(net,plan,faults) "
+              "check_delay(net,plan,faults,paper) doubling_plan(net)",
+    "menus": "hears_of_menu(net,menu) all_hear(net,menu) least_lots(net,menu) shortest_ring(net,menu) "
+             "soonest_ring(net,menu) needless_rounds(net,plan)",
+    "losses": "worst_lot(net,plan,many) worst_paper(net,plan,many) is_lasting(net,plan,many) parting_wires(net,plan) "
+              "idle_wires(net,plan) stuck_delays(net,plan)",
+    "relays": "need_relay(relay) missable(relay) step(relay,faults,moment,stand,unread) "
+              "laters(relay,faults,moment,stand) stand_after(relay,faults,moment,stand,many)",
+    "ranks": "stands(relay) ranks(relay,faults) rank_at(relay,faults,moment,stand)",
+    "settling": "settles(relay,faults) failing_parts(relay,faults) settle_paper(relay,faults) "
+                "check_settle(relay,faults,paper)",
+    "runs": "run_stands(relay,faults,moment,stand,steps) heard_updates(relay,faults,moment,stand,steps) "
+            "shows(relay,stand) reached(relay,faults,moment,stand,many) surely_read(relay,faults,moment,stand,many)",
 }
 
 LIBRARY = {

@@ -7,12 +7,8 @@ from alikeagain.errors import BadKind, BadState
 from alikeagain.order import below, breadth, bricks, bricks_of, height, joined, longest_chain, top
 
 from tests import slow
-from tests.kind_samples import CROWN, KIND, SINGLE, flags, greatest, params, some_kinds
+from tests.kind_samples import CROWN, KIND, SINGLE, flags, greatest, joining_kinds, params
 from tests.refusals import Refusals
-
-
-def joining_kinds(seed, many):
-    return [kind for kind in some_kinds(seed, many) if not slow.broken(kind, slow.close(kind))]
 
 
 class TestOrder(Refusals, unittest.TestCase):
