@@ -83,8 +83,8 @@ def late_from(plan, table, firsts):
     """The moment, the two stations and the lots that show that no fewer rounds are enough."""
     stations = range(len(table[0]))
     most = greatest_first(firsts)
-    places = [(moment, one, other) for moment in range(len(firsts)) for one in stations for other in stations]
-    moment, one, other = min([(at, one, other) for at, one, other in places if firsts[at][one][other] == most])
+    places = [(at, first, second) for at in range(len(firsts)) for first in stations for second in stations]
+    moment, one, other = min([place for place in places if firsts[place[0]][place[1]][place[2]] == most])
     lots = [(one,)]
     for at in moments_from(plan, moment, most - 1):
         lots.append(wider_lot(lots[-1], table[at]))

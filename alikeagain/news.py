@@ -41,7 +41,7 @@ def firsts_from(plan, table, moment):
     many = len(table[0])
     stations = range(many)
     masks = own_news(many)
-    firsts = [[0 if one == other else None for other in stations] for one in stations]
+    firsts = [[0 if first == second else None for second in stations] for first in stations]
     for number, at in enumerate(moments_from(plan, moment, longest_delay(plan, many))):
         masks = news_behind(masks, table[at])
         for one in stations:

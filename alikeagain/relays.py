@@ -58,7 +58,7 @@ def relay_hears(relay, faults):
 
 def missed_states(relay):
     """The ascending tuple of the states that may be missed."""
-    _, kind, book, size, times, _ = relay
+    kind, book, size, times = relay[1:5]
     mixed = [number for pair in mixed_pairs(book, size, times) for number in pair]
     return tuple([state for number, state in enumerate(coming_of(kind)) if number in mixed])
 

@@ -148,6 +148,17 @@ class TestReached(Refusals, unittest.TestCase):
             self.refused(function, (relay, (), 0, (0, 1, 2, 7), 60), BadStand, value=(0, 1, 2, 7))
         self.assertEqual(reached(relay, (), 0, (0, 1, 2, 3), first - 1), tuple(sorted(rows[first - 1])))
 
+    def test_just_two_thousand(self):
+        # Each station hears itself, and is one state further by each message that is not missed.
+        further = (0, ((1, 2, 3, 4, 0),), tuple(((one + 1) % 5,) * 5 for one in range(5)), (0,) * 5)
+        straight = ((0,) * 4,)
+        ring = ((straight, (0, 1, 2, 3, 4, 5, 6)),) + ((straight, (0, 1, 2)),) * 4 + ((straight, (7,)),)
+        relay = ((3, ()), further, tuple("ab" * many for many in range(1, 6)), 2, 4, ((), ring))
+        for many in (4, 5):
+            self.assertEqual(len(reached(relay, (), 0, (0,) * 8, many)), 5 ** 3 * 2 ** 4)
+            self.assertEqual(surely_read(relay, (), 0, (0,) * 8, many), (0,) * 8)
+        self.refused(reached, (relay, (), 0, (0,) * 8, 6), TooGreat, most=2000)
+
     def test_no_table_is_wanted(self):
         # More than 2,000 pairs of a moment and a stand, but few stands that can be there.
         relay = (NET, greatest(7), CLEAR[:7], 2, 1, RELAY[5])

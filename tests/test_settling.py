@@ -213,6 +213,17 @@ class TestPapers(Refusals, unittest.TestCase):
         self.refused(check_settle, (relay, (), ("apart", 0, (1, 0), ((0,),), 1, ())), BadPaper, word="apart")
         self.refused(check_settle, (relay, (), ("apart", 0, (1, 1), ((0,),), 0, ())), BadPaper, word="apart")
 
+    def test_papers_with_joins_that_do_not_hold(self):
+        plan = ((), (TURN,))
+        delays = ("joins", delay_paper(SMALL, plan, ()))
+        self.assertEqual(check_settle(relay_of(greatest(2), plan), (), delays), 1)
+        for relay in (relay_of(FORGET, plan), relay_of(greatest(2), plan, MIXED), relay_of(SINGLE, plan)):
+            self.refused(check_settle, (relay, (), delays), BadPaper, word="joins")
+        self.refused(check_settle, (relay_of(SINGLE), (), ("joins", "one")), BadPaper, word="joins")
+        self.refused(check_settle, (relay_of(SINGLE), (), ("ranks", "one")), BadPaper, word="ranks")
+        never = ("joins", delay_paper(SMALL, ((), (GO,)), ()))
+        self.refused(check_settle, (relay_of(greatest(2), ((), (GO,))), (), never), BadPaper, word="joins")
+
     def test_papers_of_four_stations(self):
         relay = (NET, greatest(2), CLEAR[:2], 2, 1, FULL)
         self.assertEqual(settles(relay, ()), slow_plans.delay(NET, FULL, ()))
