@@ -4,6 +4,8 @@ from alikeagain.errors import BadFaults
 from alikeagain.nets import comes_to, need_net, need_station, rows_of, stations_of, switches_of, ways_through
 from alikeagain.values import is_headed, is_tuple, is_whole
 
+MOST_FAULTS = 2
+
 
 def is_fault(net, value):
     """Whether a value is one fault of a net."""
@@ -22,16 +24,29 @@ def can_follow(ahead, fault):
     return ahead < fault and ahead[:3] != fault[:3]
 
 
+def first_no_fault(net, things):
+    """The number of the first one of some things that is no fault, or cannot follow the one ahead, or None."""
+    for number, thing in enumerate(things):
+        if not is_fault(net, thing):
+            return number
+        if number > 0 and not can_follow(things[number - 1], thing):
+            return number
+    return None
+
+
+def are_faults(net, value):
+    """Whether a value is faults of a net."""
+    return is_tuple(value, 0, MOST_FAULTS) and first_no_fault(net, value) is None
+
+
 def need_faults(net, faults):
     """The faults themselves, refused if they are none of the net."""
     need_net(net)
-    if not is_tuple(faults, 0, 2):
+    if not is_tuple(faults, 0, MOST_FAULTS):
         raise BadFaults(None)
-    for number, fault in enumerate(faults):
-        if not is_fault(net, fault):
-            raise BadFaults(number)
-        if number > 0 and not can_follow(faults[number - 1], fault):
-            raise BadFaults(number)
+    number = first_no_fault(net, faults)
+    if number is not None:
+        raise BadFaults(number)
     return faults
 
 

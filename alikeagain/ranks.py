@@ -1,6 +1,7 @@
 """Ranks: how many steps it takes at the most till the copies are alike for ever."""
 
 from alikeagain.errors import TooGreat
+from alikeagain.paths import levels_past
 from alikeagain.plans import many_moments
 from alikeagain.relays import all_stands, count_stands, later_pairs, missed_states, need_faulty, need_relay, need_small
 from alikeagain.relays import need_spot, relay_hears
@@ -8,64 +9,31 @@ from alikeagain.relays import need_spot, relay_hears
 MOST_STANDS = 2000
 
 
-def is_alike(stand):
+def are_all_same(stand):
     """Whether all states of a stand are the same."""
     return all([state == stand[0] for state in stand])
+
+
+def all_pairs(relay):
+    """The ascending list of all pairs of a moment and a stand."""
+    return [(moment, stand) for moment in range(many_moments(relay[5])) for stand in all_stands(relay)]
 
 
 def steps_table(relay, faults):
     """For each pair of a moment and a stand those that can come next."""
     table = relay_hears(relay, faults)
     missed = missed_states(relay)
-    pairs = [(moment, stand) for moment in range(many_moments(relay[5])) for stand in all_stands(relay)]
-    return {pair: later_pairs(relay, table, missed, pair) for pair in pairs}
+    return {pair: later_pairs(relay, table, missed, pair) for pair in all_pairs(relay)}
 
 
-def pairs_ahead(steps):
-    """For each pair those ahead of it, from which it can come next."""
-    ahead = {pair: [] for pair in steps}
-    for pair in steps:
-        for later in steps[pair]:
-            ahead[later].append(pair)
-    return ahead
-
-
-def leading_to(ahead, ends):
-    """All pairs from which some steps, perhaps none, lead to one of these."""
-    found = {pair: True for pair in ends}
-    level = list(ends)
-    while level:
-        fresh = []
-        for pair in level:
-            for before in ahead[pair]:
-                if before not in found:
-                    found[before] = True
-                    fresh.append(before)
-        level = fresh
-    return found
+def apart_pairs(steps):
+    """The pairs whose stands are not alike."""
+    return [pair for pair in steps if not are_all_same(pair[1])]
 
 
 def ranks_by(steps):
     """The ranks of the pairs that have one."""
-    ahead = pairs_ahead(steps)
-    apart = leading_to(ahead, [pair for pair in steps if not is_alike(pair[1])])
-    level = [pair for pair in steps if pair not in apart]
-    found = {pair: 0 for pair in level}
-    # Of each other pair, how many that can come next have no rank yet.
-    lacking = {pair: len(steps[pair]) for pair in apart}
-    number = 0
-    while level:
-        number += 1
-        fresh = []
-        for pair in level:
-            for before in ahead[pair]:
-                if before in lacking:
-                    lacking[before] -= 1
-                    if lacking[before] == 0:
-                        found[before] = number
-                        fresh.append(before)
-        level = fresh
-    return found
+    return levels_past(steps, apart_pairs(steps))
 
 
 def ranks_table(relay, faults):

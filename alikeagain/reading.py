@@ -19,19 +19,31 @@ def is_heard(word, text, size, times):
     return copies is not None and copies <= times
 
 
+def texts_heard(book, size, times, word):
+    """The ascending list of the numbers of the texts of which a WORD is heard."""
+    return [number for number, text in enumerate(book) if is_heard(word, text, size, times)]
+
+
+def read_as(book, size, times, word):
+    """The number of the text as which a WORD is read, or None."""
+    numbers = texts_heard(book, size, times, word)
+    if len(numbers) != 1:
+        return None
+    return numbers[0]
+
+
 def heard_of(book, size, times, word):
     """The ascending tuple of the numbers of the texts of which a WORD is heard."""
     need_asked(book, size, times)
     need_word(word)
-    return tuple([number for number, text in enumerate(book) if is_heard(word, text, size, times)])
+    return tuple(texts_heard(book, size, times, word))
 
 
 def read(book, size, times, word):
     """The number of the text as which a WORD is read, or None."""
-    numbers = heard_of(book, size, times, word)
-    if len(numbers) != 1:
-        return None
-    return numbers[0]
+    need_asked(book, size, times)
+    need_word(word)
+    return read_as(book, size, times, word)
 
 
 def mixed_with(book, size, times, number):

@@ -121,7 +121,7 @@ def count_stands(relay):
 
 
 def table_steps(relay, faults):
-    """How many steps a table of all moments and stands has."""
+    """How many steps a table of all moments and stands has, if nobody makes updates."""
     total = 0
     missed = missed_states(relay)
     for heard in relay_hears(relay, faults):
@@ -130,11 +130,16 @@ def table_steps(relay, faults):
     return total * count_stands(relay)
 
 
-def need_small(relay, faults):
+def count_pairs(relay):
+    """How many pairs of a moment and a stand there are."""
+    return many_moments(relay[5]) * count_stands(relay)
+
+
+def need_small(relay, faults, choices=1):
     """Nothing; a relay with too many pairs of a moment and a stand, or too many steps, is refused."""
-    if many_moments(relay[5]) * count_stands(relay) > MOST_PAIRS:
+    if count_pairs(relay) > MOST_PAIRS:
         raise TooGreat(MOST_PAIRS)
-    if table_steps(relay, faults) > MOST_TABLE_STEPS:
+    if table_steps(relay, faults) * choices > MOST_TABLE_STEPS:
         raise TooGreat(MOST_TABLE_STEPS)
 
 

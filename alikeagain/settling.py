@@ -5,8 +5,9 @@ from alikeagain.errors import BadPaper
 from alikeagain.joins import RULES, broken_on
 from alikeagain.kinds import coming_of, merge_of
 from alikeagain.nets import stations_of
+from alikeagain.paths import row_between, row_round
 from alikeagain.plans import is_moment, many_moments, moment_behind
-from alikeagain.ranks import is_alike, ranks_by, ranks_table, steps_table
+from alikeagain.ranks import apart_pairs, are_all_same, ranks_by, ranks_table, steps_table
 from alikeagain.relays import behind_round, can_be_unread, count_stands, is_relay_stand, is_unread, missed_states
 from alikeagain.relays import need_faulty, need_small, relay_hears
 from alikeagain.values import is_headed, is_tuple, is_whole
@@ -49,13 +50,18 @@ def settles_by_ranks(relay, faults):
     return max(found)
 
 
-def settles(relay, faults):
-    """The least number of steps by which a relay settles, or None."""
-    need_faulty(relay, faults)
+def least_settling(relay, faults):
+    """The least number of steps by which a relay settles, or None, if it is not too great."""
     if does_join(relay):
         return settles_joined(relay, faults)
     need_small(relay, faults)
     return settles_by_ranks(relay, faults)
+
+
+def settles(relay, faults):
+    """The least number of steps by which a relay settles, or None."""
+    need_faulty(relay, faults)
+    return least_settling(relay, faults)
 
 
 def failing_parts(relay, faults):
@@ -111,43 +117,6 @@ def unreads_along(relay, table, row):
     return tuple(found)
 
 
-def row_round(steps, ranked, pair):
-    """A row of pairs without ranks that begins and ends with the same pair."""
-    row = [pair]
-    places = {pair: 0}
-    while True:
-        # If all that can come next had ranks, so had the pair itself.
-        later = min([other for other in steps[row[-1]] if other not in ranked])
-        if later in places:
-            return row[places[later]:] + [later]
-        places[later] = len(row)
-        row.append(later)
-
-
-def row_to(before, pair):
-    """The row of pairs to a pair, by the one ahead of each, None of the first one."""
-    row = [pair]
-    while before[row[-1]] is not None:
-        row.append(before[row[-1]])
-    return row[::-1]
-
-
-def row_apart(steps, pair):
-    """A row of as few pairs as can be from a pair without a rank to one that is not alike."""
-    before = {pair: None}
-    level = [pair]
-    while True:
-        fresh = []
-        for one in level:
-            if not is_alike(one[1]):
-                return row_to(before, one)
-            for later in steps[one]:
-                if later not in before:
-                    before[later] = one
-                    fresh.append(later)
-        level = fresh
-
-
 def apart_by_ranks(relay, faults):
     """A paper with "apart", by the pairs that have no rank; None if all have."""
     steps = steps_table(relay, faults)
@@ -156,9 +125,10 @@ def apart_by_ranks(relay, faults):
     if not without:
         return None
     table = relay_hears(relay, faults)
-    ring = row_round(steps, ranked, without[0])
-    tail = row_apart(steps, ring[0])
-    unreads = unreads_along(relay, table, ring)
+    # If all that can come next had ranks, so had the pair itself.
+    ring = row_round(without[0], lambda pair: min([later for later in steps[pair] if later not in ranked]))[1]
+    tail = row_between(steps, ring[:1], {pair: True for pair in apart_pairs(steps)})
+    unreads = unreads_along(relay, table, ring + ring[:1])
     return "apart", ring[0][0], ring[0][1], unreads, 0, unreads_along(relay, table, tail)
 
 
@@ -230,7 +200,7 @@ def shows_apart(relay, faults, paper):
     if pairs is None or pairs[-1] != pairs[back]:
         return False
     behind = end_of_run(relay, faults, pairs[-1], tail)
-    return behind is not None and not is_alike(behind[-1][1])
+    return behind is not None and not are_all_same(behind[-1][1])
 
 
 def steps_shown(relay, faults, paper):

@@ -14,6 +14,11 @@ def is_tuple(value, least, most):
     return isinstance(value, tuple) and least <= len(value) <= most
 
 
+def is_series(value, least, most):
+    """Whether a value is a list or tuple of at least and at most so many things."""
+    return isinstance(value, (list, tuple)) and least <= len(value) <= most
+
+
 def is_headed(value, word, many):
     """Whether a value is a tuple of so many things, the word being the first one."""
     return is_tuple(value, many, many) and isinstance(value[0], str) and value[0] == word

@@ -57,6 +57,34 @@ INTERFACE = {
                 "check_settle(relay,faults,paper)",
     "runs": "run_stands(relay,faults,moment,stand,steps) heard_updates(relay,faults,moment,stand,steps) "
             "shows(relay,stand) reached(relay,faults,moment,stand,many) surely_read(relay,faults,moment,stand,many)",
+    "probes": "need_test(net,kind,test) need_tests(net,kind,tests) outcome(net,kind,faults,test) "
+              "outcomes(net,kind,faults,tests) all_faults(net,most) are_alike(net,kind,one,other) "
+              "classes(net,kind,most) parting_test(net,kind,one,other)",
+    "naming": "names(net,kind,tests,most) mixed_pair(net,kind,tests,most) kinds_told(net,kind,tests,most) "
+              "name_paper(net,kind,tests,most) check_names(net,kind,tests,most,paper) enough_tests(net,kind,tests,most)",
+    "seen": "need_seen(net,kind,seen) fitting(net,kind,seen,most) first_false(net,kind,seen,most) "
+            "heads_left(net,kind,seen,most) is_named(net,kind,seen,most) next_test(net,kind,seen,most,tests)",
+    "sayings": "need_saying(relay,saying) is_so(relay,moment,stand,saying) laters_by(relay,faults,may,moment,stand)",
+    "wishes": "need_wish(relay,wish) wish_holds(relay,faults,may,begin,wish) least_within(relay,faults,may,begin,saying) "
+              "least_from(relay,faults,may,begin,saying) which_hold(relay,faults,may,begin,wishes) "
+              "needed_messages(relay,faults,may,wish)",
+    "wishpapers": "fulfils(relay,wish,ahead,loop) wish_paper(relay,faults,may,begin,wish) "
+                  "check_wish(relay,faults,may,begin,wish,paper)",
+    "terms": "need_kind_term(kind_term) need_ring_term(net,ring_term) kind_of(kind_term) ring_of(net,ring_term) "
+             "kind_terms_in(kind_term) ring_terms_in(net,ring_term)",
+    "lines": "net_text(net) kind_text(kind_term) ring_text(net,ring_term) saying_text(relay,saying) wish_text(relay,wish) "
+             "read_net(text) read_kind(text) read_ring(net,text) read_wish(relay,text)",
+    "sheets": "relay_of(text) judged(text)",
+    "live": "under(manager,deed)",
+    "logs": "begin_stands(relay,faults,log) shown_next(relay,faults,log) fitting_faults(relay,menu,log) "
+            "first_false(relay,faults,log)",
+}
+# Of each class the file, its parameters, its properties, its methods with their parameters.
+CLASSES = {
+    "Live": ("live", "relay,moment,stand", "relay moment stand faults",
+             "update(station,number) go(doubled) put(fault) heal(fault) is_alike() settles() undo() copy() trial() "
+             "__len__() __eq__(other)"),
+    "Desk": ("desk", "text", "live", "say(line)"),
 }
 
 LIBRARY = {
@@ -111,6 +139,24 @@ class TestInterface(unittest.TestCase):
                 self.assertEqual([item.name for item in parameters], rest.split(","), told)
                 for item in parameters:
                     self.assertEqual((item.kind, item.default), (item.POSITIONAL_OR_KEYWORD, item.empty))
+
+
+    def test_each_method_stands_in_its_class_with_its_arguments(self):
+        for name, (file, fields, properties, methods) in CLASSES.items():
+            found = getattr(importlib.import_module(f"alikeagain.{file}"), name)
+            self.assertEqual(found.__module__, f"alikeagain.{file}")
+            own = vars(found)
+            self.assertEqual(list(inspect.signature(own["__init__"]).parameters), ["self", *fields.split(",")])
+            for word in properties.split():
+                self.assertIsInstance(own[word], property)
+            for told in methods.split():
+                word, rest = told[:-1].split("(")
+                parameters = inspect.signature(own[word]).parameters
+                self.assertEqual(list(parameters), ["self", *(rest.split(",") if rest else [])], told)
+                defaults = [item.default for item in parameters.values() if item.default is not item.empty]
+                self.assertEqual(defaults, [()] if word == "go" else [], told)
+                for item in parameters.values():
+                    self.assertEqual(item.kind, item.POSITIONAL_OR_KEYWORD)
 
 
 class TestLanguage(unittest.TestCase):
@@ -179,6 +225,12 @@ class TestLanguage(unittest.TestCase):
             self.assertEqual(set(tops) & imports, set(), file)
 
     def test_what_is_used(self):
+        nodes = [node for _, tree in trees() for node in ast.walk(tree)]
+        stored = {node.attr for node in nodes if isinstance(node, ast.Attribute) and isinstance(node.ctx, ast.Store)}
+        inner = {item.name for node in nodes if isinstance(node, ast.ClassDef) for item in node.body
+                 if isinstance(item, ast.FunctionDef)}
+        # No name is both, and a method is nowhere read off a class but for __init__.
+        self.assertEqual(stored & inner, set())
         for file, tree in trees():
             known = {name for name, _ in assigned(tree)}
             for node in ast.walk(tree):
@@ -187,8 +239,7 @@ class TestLanguage(unittest.TestCase):
                 if isinstance(node, ast.Name) and hasattr(builtins, node.id) and node.id not in known:
                     self.assertIn(node.id, BUILTINS, told)
                 if isinstance(node, ast.Attribute):
-                    own = isinstance(node.ctx, ast.Store) or node.attr in METHODS or node.attr == "__init__"
-                    self.assertTrue(own, f"{told} {node.attr}")
+                    self.assertIn(node.attr, stored | inner | METHODS, told)
                 if isinstance(node, ast.BinOp) and isinstance(node.op, ast.Pow):
                     self.assertIsInstance(node.right, ast.Constant, told)
                 if isinstance(node, ast.Compare):
@@ -199,6 +250,27 @@ class TestLanguage(unittest.TestCase):
                     self.assertNotIn("%", node.value, told)
                 if isinstance(node, ast.Constant) and isinstance(node.value, float):
                     self.fail(told)
+                if isinstance(node, ast.ExceptHandler):
+                    caught = {part.id for part in ast.walk(node.type) if isinstance(part, ast.Name)}
+                    self.assertLessEqual(caught, {"AlikeError", "TooGreat"}, told)
+
+    def test_with_blocks_end_plainly(self):
+        """What __exit__ and operators do is the least there can be."""
+        for file, tree in trees():
+            for node in ast.walk(tree):
+                if isinstance(node, ast.FunctionDef) and node.name == "__exit__":
+                    for row in node.body:
+                        self.assertIsInstance(row, ast.Assign, file)
+                        self.assertIsInstance(row.value, (ast.Name, ast.Attribute), file)
+                if isinstance(node, ast.FunctionDef) and node.name in ("__eq__", "__len__"):
+                    self.assertEqual([type(row) for row in node.body], [ast.Return], file)
+                if isinstance(node, ast.ClassDef):
+                    names = {item.name for item in node.body if isinstance(item, ast.FunctionDef)}
+                    known = {"__init__", "__eq__", "__len__", "__enter__", "__exit__"}
+                    self.assertLessEqual({name for name in names if name.startswith("__")}, known, file)
+                if isinstance(node, ast.Attribute):
+                    # As a class has __len__ and __eq__.
+                    self.assertNotEqual(node.attr, "sort", file)
 
     def test_words(self):
         for file, tree in trees():
