@@ -11,7 +11,8 @@ ROW = "row"
 SETTINGS = "settings"
 SENDERS = "senders"
 KIND_SHAPES = (
-    ("top", (NUMBER,)), ("flags", (NUMBER,)), ("pair", (TREE, TREE)), ("without", (TREE, NUMBER)), ("reads", (TREE, ROW)),
+    ("top", (NUMBER,)), ("flags", (NUMBER,)), ("pair", (TREE, TREE)), ("without", (TREE, NUMBER)),
+    ("reads", (TREE, ROW)),
 )
 RING_SHAPES = (
     ("round", (SETTINGS, SENDERS)), ("all", (SETTINGS,)), ("then", (TREE, TREE)), ("times", (TREE, NUMBER)),
