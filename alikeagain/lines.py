@@ -6,12 +6,10 @@ from alikeagain.nets import STATIONS, need_net
 from alikeagain.relays import need_relay
 from alikeagain.sayings import MOST_SAID, SAYING_SHAPES, need_saying
 from alikeagain.terms import KIND_SHAPES, MOST_KIND_WORDS, MOST_RING_WORDS, MOST_STATES, RING_SHAPES
-from alikeagain.terms import ROW, SENDERS, SETTINGS, need_kind_term, need_ring_term
-from alikeagain.trees import NUMBER, TREE, other_places, shape_of, tree_places
+from alikeagain.terms import need_kind_term, need_ring_term
+from alikeagain.trees import other_places, shape_of, tree_places
 from alikeagain.wishes import WISH_SHAPES, need_wish, need_wished
 
-# What verdicts want besides numbers: signs that may come over a wire.
-SPOKEN = "signs"
 NOBODY = "none"
 MOST_FIGURES = 3
 MOST_ROWS = 4
@@ -27,11 +25,11 @@ def figures(values):
 
 def part_words(part, value):
     """The words of what stands in a tree besides trees."""
-    if part == ROW:
+    if part == "row":
         return [str(number) for number in (len(value), *value)]
-    if part == SETTINGS:
+    if part == "settings":
         return [".".join([figures(row) for row in value])]
-    if part == SENDERS:
+    if part == "senders":
         return [figures(value) or NOBODY]
     return [str(value)]
 
@@ -184,14 +182,14 @@ def read_signs(line, at):
 
 def read_part(line, at, part):
     """What stands at a place of a line besides trees, and the place behind it."""
-    if part == ROW:
+    if part == "row":
         many = read_number(line, at, 1, MOST_STATES)
         return read_numbers(line, at + 1, many), at + 1 + many
-    if part == SETTINGS:
+    if part == "settings":
         return read_settings(line, at), at + 1
-    if part == SENDERS:
+    if part == "senders":
         return read_senders(line, at), at + 1
-    if part == SPOKEN:
+    if part == "signs":
         return read_signs(line, at), at + 1
     return read_number(line, at), at + 1
 

@@ -8,12 +8,12 @@ from alikeagain.ranks import are_all_same
 from alikeagain.relays import is_relay_stand, later_pairs, missed_states, need_faulty, need_relay, relay_hears
 from alikeagain.relays import states_behind
 from alikeagain.runs import is_doing
-from alikeagain.trees import NUMBER, TREE, first_wrong
+from alikeagain.trees import first_wrong
 from alikeagain.values import ascends, is_tuple, is_whole
 
 SAYING_SHAPES = (
-    ("alike", ()), ("same", (NUMBER, NUMBER)), ("has", (NUMBER, NUMBER)), ("reads", (NUMBER, NUMBER)),
-    ("moment", (NUMBER,)), ("not", (TREE,)), ("and", (TREE, TREE)), ("or", (TREE, TREE)),
+    ("alike", ()), ("same", ("number", "number")), ("has", ("number", "number")), ("reads", ("number", "number")),
+    ("moment", ("number",)), ("not", ("tree",)), ("and", ("tree", "tree")), ("or", ("tree", "tree")),
 )
 MOST_SAID = 12
 DEEPEST_SAID = 4

@@ -4,7 +4,7 @@ from alikeagain.books import MOST_TEXTS, mixed_pairs, need_book
 from alikeagain.errors import BadBook
 from alikeagain.kinds import coming_of
 from alikeagain.letters import is_text, need_size, need_times
-from alikeagain.lines import NOBODY, SPOKEN, line_at, lines_of, need_no_line, need_no_word, need_that, read_kind_at
+from alikeagain.lines import NOBODY, line_at, lines_of, need_no_line, need_no_word, need_that, read_kind_at
 from alikeagain.lines import read_net_lines, read_numbers, read_others, read_ring_at, read_shape, read_wish_at
 from alikeagain.lines import read_word, word_at
 from alikeagain.nets import is_station, need_net
@@ -13,13 +13,12 @@ from alikeagain.reading import read_as
 from alikeagain.relays import relay_hears
 from alikeagain.settling import delay_of, does_join, least_settling
 from alikeagain.terms import kind_of, ring_of
-from alikeagain.trees import NUMBER
 from alikeagain.wishes import holds_from, need_wished
 
 VERDICT_SHAPES = (
-    ("joins", ()), ("clear", ()), ("delay", (NUMBER,)), ("apart", ()), ("settles", (NUMBER,)), ("never", ()),
-    ("hears", (NUMBER, NUMBER, NUMBER)), ("nothing", (NUMBER, NUMBER)), ("heard", (SPOKEN, NUMBER)),
-    ("unread", (SPOKEN,)),
+    ("joins", ()), ("clear", ()), ("delay", ("number",)), ("apart", ()), ("settles", ("number",)), ("never", ()),
+    ("hears", ("number", "number", "number")), ("nothing", ("number", "number")), ("heard", ("signs", "number")),
+    ("unread", ("signs",)),
 )
 
 

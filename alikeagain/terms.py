@@ -3,20 +3,17 @@
 from alikeagain.errors import BadTerm
 from alikeagain.nets import are_settings, is_station, need_net, stations_of
 from alikeagain.rounds import are_senders
-from alikeagain.trees import NUMBER, TREE, first_wrong, trees_in
+from alikeagain.trees import first_wrong, trees_in
 from alikeagain.values import are_wholes, is_tuple, is_whole, power
 
-# What stands in a term besides numbers and terms.
-ROW = "row"
-SETTINGS = "settings"
-SENDERS = "senders"
 KIND_SHAPES = (
-    ("top", (NUMBER,)), ("flags", (NUMBER,)), ("pair", (TREE, TREE)), ("without", (TREE, NUMBER)),
-    ("reads", (TREE, ROW)),
+    ("top", ("number",)), ("flags", ("number",)), ("pair", ("tree", "tree")), ("without", ("tree", "number")),
+    ("reads", ("tree", "row")),
 )
 RING_SHAPES = (
-    ("round", (SETTINGS, SENDERS)), ("all", (SETTINGS,)), ("then", (TREE, TREE)), ("times", (TREE, NUMBER)),
-    ("turn", (TREE, NUMBER)), ("but", (TREE, NUMBER)), ("both", (TREE, TREE)),
+    ("round", ("settings", "senders")), ("all", ("settings",)), ("then", ("tree", "tree")),
+    ("times", ("tree", "number")), ("turn", ("tree", "number")), ("but", ("tree", "number")),
+    ("both", ("tree", "tree")),
 )
 # The least and the greatest number that may stand last behind a word.
 BOUNDS = {"top": (2, 8), "flags": (1, 3), "without": (0, 3), "times": (1, 6), "turn": (0, 5)}

@@ -1,8 +1,7 @@
-"""Trees of words: tuples of a word and what it wants, some of this trees again."""
+"""Trees of words: tuples of a word and what it wants, some of this trees again.
 
-# What a word wants is told by a tuple of words, this one for a tree.
-TREE = "tree"
-NUMBER = "number"
+What a word wants, its shape, is told by a tuple of words: "tree" for a tree, others for what is none.
+"""
 
 
 def shape_of(shapes, word):
@@ -15,12 +14,12 @@ def shape_of(shapes, word):
 
 def tree_places(shape):
     """The places, in a tuple of a word and what it wants, at which trees stand."""
-    return [at + 1 for at, part in enumerate(shape) if part == TREE]
+    return [at + 1 for at, part in enumerate(shape) if part == "tree"]
 
 
 def other_places(shape):
     """The places, in a tuple of a word and what it wants, at which other things than trees stand."""
-    return [at + 1 for at, part in enumerate(shape) if part != TREE]
+    return [at + 1 for at, part in enumerate(shape) if part != "tree"]
 
 
 def trees_in(shapes, tree):

@@ -5,12 +5,12 @@ from alikeagain.paths import levels_past, levels_to, on_rings, ring_numbers
 from alikeagain.ranks import all_pairs
 from alikeagain.relays import missed_states, need_faulty, need_relay, need_small, relay_hears
 from alikeagain.sayings import are_spots, is_so_at, laters_at, need_may, need_said, wrong_saying
-from alikeagain.trees import NUMBER, TREE, is_shaped, shape_of, tree_places
+from alikeagain.trees import is_shaped, shape_of, tree_places
 from alikeagain.values import is_tuple, is_whole
 
 WISH_SHAPES = (
-    ("always", (TREE,)), ("later", (TREE,)), ("until", (TREE, TREE)), ("again", (TREE,)), ("last", (TREE,)),
-    ("within", (NUMBER, TREE)), ("from", (NUMBER, TREE)),
+    ("always", ("tree",)), ("later", ("tree",)), ("until", ("tree", "tree")), ("again", ("tree",)), ("last", ("tree",)),
+    ("within", ("number", "tree")), ("from", ("number", "tree")),
 )
 MOST_WITHIN = 60
 MOST_WISHES = 8
@@ -56,8 +56,9 @@ def need_begun(relay, faults, may, begin):
 def need_few(relay, faults, may):
     """Nothing; a relay is refused of which there are too many steps, all choices of updates counted."""
     choices = 1
-    for station in sorted(set([station for station, _ in may])):
-        choices *= 1 + len([at for at, _ in may if at == station])
+    stations = [station for station, _ in may]
+    for station in sorted(set(stations)):
+        choices *= 1 + stations.count(station)
     need_small(relay, faults, choices)
 
 

@@ -194,8 +194,13 @@ def shows_holds(relay, faults, may, begin, wish, table):
     heard = relay_hears(relay, faults)
     missed = missed_states(relay)
     pairs = {pair: True for pair in table}
+    spot = None
+    laters = []
     for pair in table:
-        laters = laters_at(relay, heard, missed, may, pair[0])
+        # Of "from" a spot may stand there up to 61 times, one behind another.
+        if pair[0] != spot:
+            spot = pair[0]
+            laters = laters_at(relay, heard, missed, may, spot)
         if wish[0] == "from":
             if not goes_on_from(relay[1], wish, pairs, pair, laters):
                 return False
