@@ -120,6 +120,12 @@ class TestPapers(Refusals, unittest.TestCase):
         self.assertEqual(check_wish(relay, (), (), top, away, ("holds", ((top, 0), (top, 1)))), "holds")
         for table in (((apart, 1), (top, 1)), ((apart, 0), (top, 2)), ((apart, 0), (top, 0)), ((top, 1),)):
             self.refused(check_wish, (relay, (), (), apart, away, ("holds", table)), BadPaper, word="holds")
+        # No number above N, even where nothing else is missing; and from N on it has to be so.
+        self.refused(check_wish, (relay, (), (), top, away, ("holds", ((top, 0), (top, 1), (top, 2)))), BadPaper, word="holds")
+        for number, table in ((0, ((apart, 0), (top, 0))), (1, ((apart, 0), (apart, 1), (top, 1)))):
+            wish = ("from", number, ALIKE)
+            self.refused(check_wish, (relay, (), (), apart, wish, ("holds", table)), BadPaper, word="holds")
+        self.assertEqual(check_wish(relay, (), (), top, ("from", 0, ALIKE), ("holds", ((top, 0),))), "holds")
 
     def test_runs_that_fail_by_hand(self):
         relay = two(SWAP, TURN)
